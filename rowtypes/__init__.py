@@ -1,0 +1,1 @@
+"""rowtypes: a small language with extensible records, and its types."""
