@@ -18,7 +18,7 @@ class Graph:
         # None for a free row, or else the pair (fields, number of the row behind or None).
         self.rows = []
 
-    def place(self, shape):
+    def new_place(self, shape):
         """A new place with this shape: ("var",), ("fun", place, place), ("record", fields, row) .."""
         self.shapes.append(shape)
         self.links.append(len(self.links))

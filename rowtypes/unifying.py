@@ -13,7 +13,7 @@ class Entry:
         self.kinds = {}
         self.ends = {}
 
-    def place(self, given):
+    def enter(self, given):
         """A place in the graph with the type."""
         # Behind a type in reverse order stand the places of its parts, the first one on top.
         places = []
@@ -26,15 +26,15 @@ class Entry:
         if part[0] == "var":
             return self._variable(part[1])
         if part[0] == "fun":
-            return self.graph.place(("fun", inner[0], inner[1]))
+            return self.graph.new_place(("fun", inner[0], inner[1]))
         if part[0] == "record":
             fields = [(label, place) for (label, _), place in zip(part[1], inner)]
-            return self.graph.place(("record", tuple(fields), self._row(part[2])))
-        return self.graph.place(part)
+            return self.graph.new_place(("record", tuple(fields), self._row(part[2])))
+        return self.graph.new_place(part)
 
     def _variable(self, name):
         if name not in self.kinds:
-            self.kinds[name] = self.graph.place(("var",))
+            self.kinds[name] = self.graph.new_place(("var",))
         return self.kinds[name]
 
     def _row(self, name):
@@ -48,7 +48,7 @@ class Entry:
         """The list of pairs (variable, place of its image), ascending."""
         found = list(self.kinds.items())
         for name, row in self.ends.items():
-            found.append((name, self.graph.place(("record", (), row))))
+            found.append((name, self.graph.new_place(("record", (), row))))
         return sorted(found, key=lambda pair: pair[0])
 
 
@@ -57,7 +57,7 @@ def unify(pairs):
     graph = Graph()
     entry = Entry(graph)
     for one, other in pairs:
-        if not graph.unite(entry.place(one), entry.place(other)):
+        if not graph.unite(entry.enter(one), entry.enter(other)):
             return None
     images = entry.images()
     types = graph.types()

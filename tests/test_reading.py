@@ -61,6 +61,7 @@ class Tokens(unittest.TestCase):
     def test_numbers(self):
         for text in ("0", "7", "10", "999999", "100000"):
             self.reads(text, ("number", int(text)))
+            self.reads("1 + " + text, ("op", "+", ("number", 1), ("number", int(text))))
         for text in ("1000000", "01", "00", "007", "0000000"):
             self.refuses(text, 1)
             self.refuses("1 + " + text, 3)
