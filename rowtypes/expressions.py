@@ -23,6 +23,11 @@ def children(expression):
     return expression[FIRST_CHILD[expression[0]]:]
 
 
+def with_children(node, parts):
+    """The node with other expressions in the place of its children."""
+    return node[:FIRST_CHILD[node[0]]] + tuple(parts)
+
+
 def nodes(expression):
     """The list of all nodes, a node ahead of its children."""
     # Kept off recursion: what runs can be far deeper than what is read.
@@ -33,6 +38,18 @@ def nodes(expression):
         found.append(node)
         waiting.extend(children(node)[::-1])
     return found
+
+
+def child_numbers(expression):
+    """The list of the tuples of the numbers of the children, one for each node."""
+    found = []
+    # Behind a node in reverse order stand the numbers of its children, the first one on top.
+    waiting = []
+    parts = nodes(expression)
+    for number in reversed(range(len(parts))):
+        found.append(tuple([waiting.pop() for _ in children(parts[number])]))
+        waiting.append(number)
+    return found[::-1]
 
 
 def brought_names(node):

@@ -4,7 +4,7 @@ A type is named by the number of its place. Types that were joined share what
 stands within them, so a type that would be huge as a tuple stays small here.
 """
 
-from rowtypes.types import MOST_SYMBOLS, symbols
+from rowtypes.types import MOST_SYMBOLS, substitute, symbols, variables
 
 
 class Graph:
@@ -19,7 +19,12 @@ class Graph:
         self.rows = []
 
     def new_place(self, shape):
-        """A new place with this shape: ("var",), ("fun", place, place), ("record", fields, row) .."""
+        """A new place with this shape: ("var",), ("fun", place, place), ("record", fields, row) ..
+
+        The shape ("use", place, leaves) has the type at that place, but with leaves of its
+        own for these. It is copied only when it meets another type: types that double with
+        each use stay small.
+        """
         self.shapes.append(shape)
         self.links.append(len(self.links))
         return len(self.links) - 1
@@ -66,6 +71,8 @@ class Graph:
         if other[0] == "var":
             self.links[right] = left
             return []
+        if one[0] == "use" or (other[0] == "use" and one[0] != "var"):
+            return self._link_uses(left, right)
         if one[0] != "var" and one[0] != other[0]:
             return None
         self.links[left] = right
@@ -94,15 +101,121 @@ class Graph:
                 self.rows[row] = (fields, behind)
         return pairs
 
-    def parts(self, place):
-        """The list of the roots that stand directly in the type at a root."""
+    def _link_uses(self, left, right):
+        one = self.shapes[left]
+        other = self.shapes[right]
+        if one[0] == other[0] and self.root(one[1]) == self.root(other[1]) and one[2] == other[2]:
+            # Two uses of one type are alike when their own leaves are, one by one.
+            self.links[left] = right
+            return []
+        opened = (self._opened(left), self._opened(right))
+        return None if None in opened else [opened]
+
+    def _opened(self, place):
+        """The root, or what it is a use of, copied; None for a use that stands in itself."""
         shape = self.shapes[place]
+        if shape[0] != "use":
+            return place
+        # Copies of what stands in itself could go on for ever: each one has uses to be copied.
+        if not self._order_below(place, {}, []):
+            return None
+        copy = self._copied(shape[1], shape[2])
+        self.links[place] = copy
+        return copy
+
+    def parts(self, place):
+        """The list of the roots that stand directly in the type at a root; for a use, what it uses."""
+        shape = self.shapes[place]
+        if shape[0] == "use":
+            return [self.root(shape[1])]
         if shape[0] == "fun":
             return [self.root(shape[1]), self.root(shape[2])]
         if shape[0] == "record":
             fields, _ = self.whole_row(shape[1], shape[2])
             return [self.root(inner) for _, inner in fields]
         return []
+
+    def _reached(self, starts):
+        """A dict of all roots that stand in the types at some places, their own roots included."""
+        found = {}
+        waiting = [self.root(start) for start in starts]
+        while waiting:
+            place = waiting.pop()
+            if place not in found:
+                found[place] = True
+                waiting.extend(self.parts(place))
+        return found
+
+    def _leaf(self, place):
+        """The pair ("place", root) for a variable or a use, ("row", number) for a record with
+        a free row at its end; None for all other roots."""
+        shape = self.shapes[place]
+        if shape[0] in ("var", "use"):
+            return ("place", place)
+        if shape[0] == "record":
+            _, row = self.whole_row(shape[1], shape[2])
+            if row is not None:
+                return ("row", row)
+        return None
+
+    def leaves(self, starts):
+        """A dict of the leaves of all that stands in the types at some places."""
+        found = {}
+        replaced = {}
+        for place in self._reached(starts):
+            shape = self.shapes[place]
+            if shape[0] == "use":
+                for leaf in shape[2]:
+                    replaced[leaf] = True
+            found[self._leaf(place)] = True
+        # What a use replaces stands nowhere but in what is used.
+        return {leaf: True for leaf in found if leaf is not None and leaf not in replaced}
+
+    def _copied(self, start, leaves):
+        """A place with the type at this one, but with new leaves for those in the dict."""
+        above = self._above(start, leaves)
+        # What has none of these leaves is shared, not copied.
+        copies = {part: self.new_place(("var",)) for part in above if isinstance(part, int)}
+        fresh = {}
+        for kind, number in [part for part in above if not isinstance(part, int)]:
+            fresh[(kind, number)] = (kind, self.free_row() if kind == "row" else copies[number])
+        for place, copy in copies.items():
+            self.shapes[copy] = self._copied_shape(place, copies, fresh)
+        return copies.get(self.root(start), start)
+
+    def _above(self, start, leaves):
+        """A dict of the leaves and of all roots in the type at a place that have one of them
+        within them; when what is used is among these, the leaves that its uses replace are, too."""
+        whole = {}
+        for place in self._reached([start]):
+            shape = self.shapes[place]
+            whole.setdefault(self._leaf(place), []).append(place)
+            for part in self.parts(place):
+                whole.setdefault(part, []).append(place)
+                if shape[0] == "use":
+                    whole[part].extend(list(shape[2]))
+        found = {}
+        waiting = list(leaves)
+        while waiting:
+            part = waiting.pop()
+            if part not in found:
+                found[part] = True
+                waiting.extend(whole.get(part, []))
+        return found
+
+    def _copied_shape(self, place, copies, fresh):
+        shape = self.shapes[place]
+        inner = [copies.get(part, part) for part in self.parts(place)]
+        if shape[0] == "fun":
+            return ("fun", inner[0], inner[1])
+        if shape[0] == "use":
+            return ("use", inner[0], {fresh.get(leaf, leaf): True for leaf in shape[2]})
+        if shape[0] == "record":
+            fields, row = self.whole_row(shape[1], shape[2])
+            labelled = [(label, part) for (label, _), part in zip(fields, inner)]
+            _, end = fresh.get(("row", row), ("row", row))
+            return ("record", tuple(labelled), end)
+        return shape
 
     def ordered(self):
         """The list of all roots, each behind its parts; None if a type stands in itself."""
@@ -115,6 +228,7 @@ class Graph:
         return found
 
     def _order_below(self, start, done, found):
+        """Whether no type from the root on stands in itself; adds the new roots to those found."""
         waiting = [start]
         while waiting:
             place = waiting[-1]
@@ -142,27 +256,50 @@ class Graph:
         if order is None:
             return None
         built = {}
+        # The leaves that the names of the variables belong to.
+        owners = {}
         for place in order:
-            given = self._built(place, built)
+            given = self._built(place, built, owners)
             if given is not None and symbols(given) > MOST_SYMBOLS:
                 given = None
             built[place] = given
         return built
 
-    def _built(self, place, built):
+    def _built(self, place, built, owners):
         shape = self.shapes[place]
         inner = [built[part] for part in self.parts(place)]
         if None in inner:
             return None
+        if shape[0] == "use":
+            return self._used(place, inner[0], owners)
         if shape[0] == "var":
-            return ("var", f"t{place}")
+            return ("var", _own_name("t", ("place", place), owners))
         if shape[0] == "fun":
             return ("fun", inner[0], inner[1])
         if shape[0] == "record":
-            fields, end = self.whole_row(shape[1], shape[2])
+            fields, row = self.whole_row(shape[1], shape[2])
             labelled = [(label, given) for (label, _), given in zip(fields, inner)]
-            return ("record", tuple(labelled), None if end is None else f"r{end}")
+            end = None if row is None else _own_name("r", ("row", row), owners)
+            return ("record", tuple(labelled), end)
         return shape
+
+    def _used(self, place, given, owners):
+        """The type with names of its own for the variables that the use at the place replaces."""
+        replaced = self.shapes[place][2]
+        kinds, rows = variables(given)
+        images = {}
+        for name in kinds + rows:
+            if owners[name] in replaced:
+                fresh = f"{name}u{place}"
+                owners[fresh] = ("place", place)
+                images[name] = ("record", (), fresh) if name in rows else ("var", fresh)
+        return substitute(given, images)
+
+
+def _own_name(letter, leaf, owners):
+    name = f"{letter}{leaf[1]}"
+    owners[name] = leaf
+    return name
 
 
 def _counted(fields):

@@ -1,6 +1,9 @@
-"""What several tests use: faults of texts, and grammars that are followed by the book."""
+"""What several tests use: faults of texts, grammars that are followed by the book, expressions of all kinds."""
 
 from rowtypes.errors import BadText
+from rowtypes.reading import parse_expression
+from rowtypes.typetext import parse_type, type_text
+from rowtypes.typings import typed_in
 
 
 def fault(read, text):
@@ -82,3 +85,72 @@ def changed(tokens, alphabet):
     for at in range(len(tokens) + 1):
         for token in alphabet:
             yield tokens[:at] + [token] + tokens[at:]
+
+
+def type_texts(text, ignored=(), given=()):
+    """The texts of the types of all nodes, None if there is no typing; given has pairs of texts."""
+    names = tuple([(name, parse_type(general)) for name, general in given])
+    found = typed_in(parse_expression(text), ignored, names)
+    return None if found is None else [type_text(inner) for inner in found]
+
+
+def cut(source, size, parts):
+    """Numbers from 1 on, so many, that make the size together; source is a random.Random."""
+    places = [0] + sorted(source.sample(range(1, size), parts - 1)) + [size]
+    return [behind - ahead for ahead, behind in zip(places, places[1:])]
+
+
+def some_expression(source, size, names, others="xyf"):
+    """An expression with so many nodes, or one more, whose names are mostly these."""
+    def inner(many, brought=()):
+        return some_expression(source, many, names + list(brought), others)
+
+    if size <= 1:
+        if source.random() < 0.6 and names:
+            return ("name", source.choice(names) if source.random() < 0.97 else source.choice(others))
+        return source.choice([("number", source.randrange(3)), ("truth", source.random() < 0.5), ("empty",)])
+    kinds = ["fun", "rec", "select", "drop"]
+    kinds += ["call", "let", "let", "op", "extend", "extend"] if size > 2 else []
+    kind = source.choice(kinds + (["if"] if size > 3 else []))
+    one, other = source.choice(others), source.choice(others)
+    if kind == "fun":
+        return ("fun", one, inner(size - 1, one))
+    if kind == "rec":
+        return ("rec", one, other, inner(size - 1, one + other))
+    if kind in ("select", "drop"):
+        return (kind, source.choice("lm"), inner(size - 1))
+    sizes = cut(source, size - 1, 3 if kind == "if" else 2)
+    if kind == "let":
+        return ("let", one, inner(sizes[0]), inner(sizes[1], one))
+    if kind == "op":
+        return ("op", source.choice(["+", "-", "<", "=="]), inner(sizes[0]), inner(sizes[1]))
+    if kind == "extend":
+        rest = ("empty",) if source.random() < 0.5 else inner(sizes[1])
+        return ("extend", source.choice("lm"), inner(sizes[0]), rest)
+    return (kind,) + tuple([inner(many) for many in sizes])
+
+
+def some_lets(source, size, names):
+    """An expression with at most so many nodes, most of them lets, functions, and names brought near by."""
+    def inner(many, *brought):
+        return some_lets(source, many, names + list(brought))
+
+    if size < 3:
+        near = names[-1 - min(source.choice([0, 0, 1, 1, 2, 4]), len(names) - 1):]
+        return ("name", near[0]) if near and source.random() < 0.95 else ("empty",)
+    kind = source.choices(["let", "fun", "call", "if", "extend", "select"], [8, 4, 5, 3 if size > 3 else 0, 3, 1])[0]
+    new = source.choice("xyzw")
+    one, other = cut(source, size - 1, 2)
+    if kind == "let":
+        one = min(one, source.randint(1, 9))
+        return ("let", new, inner(one), inner(size - 1 - one, new))
+    if kind == "fun":
+        return ("fun", new, inner(size - 1, new))
+    if kind == "select":
+        return (source.choice(["select", "drop"]), source.choice("lm"), inner(size - 1))
+    if kind == "if":
+        one, other = cut(source, size - 2, 2)
+        return ("if", ("truth", True), inner(one), inner(other))
+    if kind == "extend":
+        return ("extend", source.choice("lm"), inner(one), inner(other) if source.random() < 0.3 else ("empty",))
+    return ("call", inner(one), inner(other))

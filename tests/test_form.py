@@ -20,6 +20,17 @@ INTERFACE = {
     "types": ["normal", "told", "symbols", "variables", "substitute"],
     "typetext": ["parse_type", "type_text"],
     "unifying": ["unify"],
+    "typings": ["typed", "typed_in"],
+    "instances": ["images", "is_instance", "mean_same", "meeting"],
+    "running": ["is_value", "put_in", "step", "run"],
+    "explaining": ["has_one", "explanation", "repairs"],
+}
+
+PARAMETERS = {
+    "typed": "expression ignored", "typed_in": "expression ignored given", "images": "given general",
+    "is_instance": "given general", "mean_same": "one other", "meeting": "one other", "is_value": "expression",
+    "put_in": "expression name given", "step": "expression book", "run": "expression book most",
+    "has_one": "expression ignored", "explanation": "expression", "repairs": "expression",
 }
 
 
@@ -85,6 +96,12 @@ class Form(unittest.TestCase):
             body = ast.parse(sources()[name]).body
             defined = [node.name for node in body if isinstance(node, (ast.FunctionDef, ast.ClassDef))]
             self.assertEqual([word for word in wanted if word not in defined], [], name)
+
+    def test_parameters(self):
+        for name in ("typings", "instances", "running", "explaining"):
+            for node in ast.parse(sources()[name]).body:
+                if isinstance(node, ast.FunctionDef) and not node.name.startswith("_"):
+                    self.assertEqual(" ".join([part.arg for part in node.args.args]), PARAMETERS[node.name])
 
 
 if __name__ == "__main__":
