@@ -75,3 +75,8 @@ def free_names(expression):
         inner = [(child, reach + names) for child, names in zip(children(node), brought_names(node))]
         waiting.extend(inner[::-1])
     return list(found)
+
+
+def all_brought(expression):
+    """The list of the names that nodes of the expression bring, in the order of the nodes."""
+    return [name for node in nodes(expression) for names in brought_names(node) for name in names]

@@ -24,6 +24,10 @@ INTERFACE = {
     "instances": ["images", "is_instance", "mean_same", "meeting"],
     "running": ["is_value", "put_in", "step", "run"],
     "explaining": ["has_one", "explanation", "repairs"],
+    "papers": ["check_paper", "make_paper"],
+    "reports": ["report", "read_report"],
+    "books": ["Book"],
+    "journal": ["replay"],
 }
 
 PARAMETERS = {
@@ -31,6 +35,13 @@ PARAMETERS = {
     "is_instance": "given general", "mean_same": "one other", "meeting": "one other", "is_value": "expression",
     "put_in": "expression name given", "step": "expression book", "run": "expression book most",
     "has_one": "expression ignored", "explanation": "expression", "repairs": "expression",
+    "check_paper": "expression paper", "make_paper": "expression", "report": "expression", "read_report": "text",
+    "replay": "text",
+}
+
+BOOK_METHODS = {
+    "define": "self pairs", "remove": "self name", "undo": "self", "definitions": "self", "type_of": "self name",
+    "ask": "self text", "run": "self text most", "rings": "self", "journal": "self",
 }
 
 
@@ -98,10 +109,16 @@ class Form(unittest.TestCase):
             self.assertEqual([word for word in wanted if word not in defined], [], name)
 
     def test_parameters(self):
-        for name in ("typings", "instances", "running", "explaining"):
+        for name in ("typings", "instances", "running", "explaining", "papers", "reports", "journal"):
             for node in ast.parse(sources()[name]).body:
                 if isinstance(node, ast.FunctionDef) and not node.name.startswith("_"):
                     self.assertEqual(" ".join([part.arg for part in node.args.args]), PARAMETERS[node.name])
+
+    def test_book(self):
+        [book] = [node for node in ast.parse(sources()["books"]).body if isinstance(node, ast.ClassDef)]
+        found = {node.name: " ".join([part.arg for part in node.args.args]) for node in book.body
+                 if isinstance(node, ast.FunctionDef) and not node.name.startswith("_")}
+        self.assertEqual([book.name, book.bases, found], ["Book", [], BOOK_METHODS])
 
 
 if __name__ == "__main__":
