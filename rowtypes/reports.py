@@ -119,8 +119,8 @@ def _read_line(line, place, wanted):
     ahead = f"{place} {wanted[-1]} "
     mark, _, rest = line[len(ahead):].partition(" ")
     # Heads have no colon, so the first one is that ahead of the type.
-    words, colon, written = rest.partition(" : ")
-    if not line.startswith(ahead) or mark not in MARKS or colon == "":
+    words, _, written = rest.partition(" : ")
+    if not line.startswith(ahead) or mark not in MARKS:
         return None
     head = _read_head(words.split(" "))
     given = _read_type(written)
